@@ -2,6 +2,7 @@ package tests
 
 import (
 	"bytes"
+	"math/rand"
 	"testing"
 
 	"loop.example/s02127/impl"
@@ -19,6 +20,18 @@ func ramp(n int, from byte) []byte {
 		b[i] = from + byte(i)*7
 	}
 	return b
+}
+
+func randomText(r *rand.Rand, n int) []byte {
+	b := make([]byte, n)
+	r.Read(b)
+	return b
+}
+
+// withRoom is b with room behind its end: an append to a part of it would
+// write there.
+func withRoom(b []byte) []byte {
+	return append(make([]byte, 0, len(b)+300), b...)
 }
 
 func cloneDev(d impl.Dev) impl.Dev {
