@@ -135,13 +135,18 @@ func copyDev(d Dev) Dev {
 // untilPowerLoss runs device steps and ends quietly if one of them finds no
 // fuel; the device is then marked dead.
 func untilPowerLoss(steps func()) {
-	defer func() {
-		thrown := recover()
-		if _, lost := thrown.(powerLoss); thrown != nil && !lost {
-			panic(thrown)
-		}
-	}()
+	defer func() { isPowerLoss(recover()) }()
 	steps()
+}
+
+// isPowerLoss tells whether a panic that was caught is the device's own, and
+// lets any other go on.
+func isPowerLoss(thrown any) bool {
+	_, lost := thrown.(powerLoss)
+	if thrown != nil && !lost {
+		panic(thrown)
+	}
+	return lost
 }
 
 func (d *Dev) hasSector(s int64) bool {
